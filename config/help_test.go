@@ -283,9 +283,7 @@ type named struct {
 // theText is the shape of the whole.
 func theText() shape {
 	text, number := shape{kind: api.JSONText}, shape{kind: api.JSONNumber, form: func(v api.Value) bool { return v.Whole }}
-	texts := shape{kind: api.JSONList, form: func(v api.Value) bool {
-		return !slices.ContainsFunc(v.List, func(x api.Value) bool { return x.Kind != api.JSONText })
-	}}
+	texts := shape{kind: api.JSONList, one: &text}
 	secret := shape{kind: api.JSONText, form: func(v api.Value) bool {
 		_, err := base64.RawURLEncoding.Strict().DecodeString(v.Text)
 		return err == nil && !strings.ContainsAny(v.Text, "\r\n")
@@ -670,16 +668,6 @@ func placesOf(v *api.Value, place string) []string {
 		}
 	}
 	return l
-}
-
-// toldAt is the place by which what is wrong at a place is told: of texts in a list it is the list's.
-func toldAt(place string) string {
-	for _, list := range []string{".methods", ".scopes"} {
-		if i := strings.Index(place, list); i >= 0 {
-			return place[:i+len(list)]
-		}
-	}
-	return place
 }
 
 // value is what a text of JSON tells.

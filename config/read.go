@@ -55,11 +55,7 @@ func (r *reader) texts(place string) []string {
 	if !r.has(place) {
 		return nil
 	}
-	l, err := pick.Texts(r.whole, place)
-	if err != nil {
-		r.fail(place)
-	}
-	return l
+	return listOf(r, place, r.text)
 }
 
 func (r *reader) number(place string) int {

@@ -159,7 +159,7 @@ func TestEachKind(t *testing.T) {
 				continue
 			}
 			*at = x
-			checkWrong(t, written(t, v), toldAt(place))
+			checkWrong(t, written(t, v), place)
 			asked++
 		}
 	}
@@ -168,13 +168,26 @@ func TestEachKind(t *testing.T) {
 	}
 }
 
-// CF1: lists that hold what is of another kind, ahead of, between and behind what may stand there.
+// CF1: lists that hold what is of another kind, ahead of, between and behind what may stand there: the first such value is told by its own place.
 func TestListsOfOtherKinds(t *testing.T) {
-	for _, name := range []string{"methods", "auth.scopes"} {
-		for _, text := range []string{`[1]`, `[null]`, `["A",1]`, `[true,"A"]`, `["A",{},"B"]`, `["A",["B"]]`} {
+	for _, list := range []string{"routes.0.methods", "routes.1.methods", "routes.0.auth.scopes", "routes.1.auth.scopes"} {
+		for _, c := range []struct {
+			text  string
+			first int
+		}{
+			{`[1]`, 0}, {`[null]`, 0}, {`[[]]`, 0}, {`["A",1]`, 1}, {`[true,"A"]`, 0}, {`["A",{},"B"]`, 1}, {`["A",["B"]]`, 1}, {`["A","B",null,7,"C",{}]`, 2}, {`[{},"A",1]`, 0},
+			// What the texts may not be is told behind the kinds.
+			{`["",1]`, 1}, {`["a b","A",false]`, 2}, {`["A","A",[]]`, 2}, {"[" + strings.Repeat(`"A",`, 40) + "null]", 40},
+		} {
 			v := tree(t, fullText)
-			*spot(v, "routes.1."+name) = value(text)
-			checkWrong(t, written(t, v), "routes.1."+name)
+			*spot(v, list) = value(c.text)
+			checkWrong(t, written(t, v), behind(list, c.first))
+		}
+		// The list's own place is told where it is of another kind itself, or by Valid of its texts.
+		for _, text := range []string{`1`, `null`, `"A"`, `{}`, `{"0":1}`, `{"0":"A"}`, `[""]`, `["A","a b"]`, `["A","B","A"]`} {
+			v := tree(t, fullText)
+			*spot(v, list) = value(text)
+			checkWrong(t, written(t, v), list)
 		}
 	}
 	for list, n := range map[string]int{"keys": 2, "pools": 2, "routes": 2, "pools.1.backends": 2} {
@@ -313,7 +326,7 @@ func TestNamesInAnyOrder(t *testing.T) {
 		i, k := r.Intn(len(places)), r.Intn(len(places))
 		*spot(v, places[max(i, k)]) = value("null")
 		*spot(v, places[min(i, k)]) = value("null")
-		checkWrong(t, written(t, v), toldAt(places[min(i, k)]))
+		checkWrong(t, written(t, v), places[min(i, k)])
 	}
 }
 
@@ -335,7 +348,7 @@ func TestOrderOfForms(t *testing.T) {
 			v := tree(t, fullText)
 			spoil(v, second)
 			spoil(v, first)
-			checkWrong(t, written(t, v), toldAt(first))
+			checkWrong(t, written(t, v), first)
 		}
 	}
 }
@@ -348,7 +361,8 @@ func TestOrderWrittenDown(t *testing.T) {
 		"pools.0.policy", "pools.0.retries", "pools.0.timeout", "pools.0.breaker", "pools.0.breaker.fails", "pools.0.breaker.open",
 		"pools.0.probe", "pools.0.probe.path", "pools.0.probe.every", "pools.0.probe.timeout", "pools.0.probe.rise", "pools.0.probe.fall",
 		"pools.1", "pools.1.name",
-		"routes", "routes.0", "routes.0.host", "routes.0.path", "routes.0.methods", "routes.0.pool", "routes.0.auth", "routes.0.auth.issuer", "routes.0.auth.audience", "routes.0.auth.scopes", "routes.0.auth.leeway",
+		"routes", "routes.0", "routes.0.host", "routes.0.path", "routes.0.methods", "routes.0.methods.0", "routes.0.methods.1", "routes.0.pool",
+		"routes.0.auth", "routes.0.auth.issuer", "routes.0.auth.audience", "routes.0.auth.scopes", "routes.0.auth.scopes.0", "routes.0.auth.scopes.1", "routes.0.auth.leeway",
 		"routes.0.limit", "routes.0.limit.by", "routes.0.limit.rate", "routes.0.limit.per", "routes.0.limit.burst", "routes.1", "routes.1.host",
 		"maxhead", "maxbody", "maxconns", "idle", "header",
 	}
@@ -374,7 +388,7 @@ func TestFormsGoAheadOfValid(t *testing.T) {
 			*spot(v, at) = value(text)
 			checkWrong(t, written(t, v), at)
 			spoil(v, place)
-			checkWrong(t, written(t, v), toldAt(place))
+			checkWrong(t, written(t, v), place)
 		}
 	}
 	for at, text := range map[string]string{"keys.1.secret": `"Q"`, "pools.1.policy": `"x"`, "routes.1.limit.by": `"x"`, "idle": "1.0"} {
